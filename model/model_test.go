@@ -246,12 +246,24 @@ func TestAllows(t *testing.T) { // 8.2
 	}
 }
 
-func TestAllowsOfNoOperation(t *testing.T) { // 8.2
-	for _, k := range no() {
-		for _, r := range results() {
-			got, may := model.Allows(some(), api.Op{Kind: k, Key: 2}, r)
-			if may != (r == api.Result{}) || !alike(got, some()) { // what Apply answers is no result
-				t.Errorf("Allows(_, %d, %v) = %v, %v", k, r, got, may)
+func TestAllowsOfNoOperation(t *testing.T) { // 8.2: nothing is the result of an operation that there is not
+	for _, s := range []api.State{{}, some()} {
+		for _, k := range no() {
+			for _, r := range results() {
+				got, may := model.Allows(s, api.Op{Kind: k, Key: 2}, r)
+				if may || !alike(got, s) {
+					t.Errorf("Allows(%v, %d, %v) = %v, %v", s, k, r, got, may)
+				}
+			}
+		}
+	}
+}
+
+func TestAllowsNoResult(t *testing.T) { // 8.2: an operation that there is has a result
+	for k := api.OpEnq; k <= api.OpCut; k++ {
+		for _, s := range []api.State{{}, some()} {
+			if got, may := model.Allows(s, api.Op{Kind: k, Key: 2}, api.Result{}); may || !alike(got, s) {
+				t.Errorf("Allows(%v, %d, none) = %v, %v", s, k, got, may)
 			}
 		}
 	}
