@@ -3,9 +3,9 @@ package sets
 import (
 	"limekiln/api"
 	"limekiln/bits"
-	"limekiln/epoch"
 	"limekiln/pmem"
 	"limekiln/retire"
+	"limekiln/room"
 )
 
 // toTake goes on behind the Seek of a key that is to be taken out.
@@ -18,40 +18,15 @@ func (x *Work) toTake(m *pmem.Mem) {
 	x.loads(m, x.found)
 }
 
-// found reserves a place for the slot: once it is taken away it must stand in the log.
+// found finds room for the slot in the log: once it is taken away it must stand there.
 func (x *Work) found(*pmem.Mem) {
-	x.reserves(x.reserved)
+	x.room = room.NewFind(x.where, x.thread, x.slot)
+	x.does(x.room, x.reserved)
 }
 
-// reserves reserves a place in the log.
-func (x *Work) reserves(then func(m *pmem.Mem)) {
-	x.reserve = retire.NewReserve(x.where, x.thread, x.slot)
-	x.does(x.reserve, then)
-}
-
-// reserved goes on behind the first Reserve. Where the log is full, what can be given back is, once.
-func (x *Work) reserved(*pmem.Mem) {
-	if x.reserve.Place() != api.None {
-		x.marks()
-		return
-	}
-	x.does(epoch.NewAdvance(x.where, x.thread), x.advanced)
-}
-
-// advanced goes on behind the Advance.
-func (x *Work) advanced(*pmem.Mem) {
-	x.reclaim = retire.NewReclaim(x.where, x.thread)
-	x.does(x.reclaim, x.reclaimed)
-}
-
-// reclaimed goes on behind the Reclaim.
-func (x *Work) reclaimed(*pmem.Mem) {
-	x.reserves(x.reservedAgain)
-}
-
-// reservedAgain goes on behind the second Reserve.
-func (x *Work) reservedAgain(m *pmem.Mem) {
-	if x.reserve.Place() == api.None {
+// reserved goes on behind that.
+func (x *Work) reserved(m *pmem.Mem) {
+	if x.room.Place() == api.None {
 		x.answers(api.ResFull, 0, m.Clock())
 		return
 	}
@@ -70,7 +45,7 @@ func (x *Work) marked(*pmem.Mem) {
 		x.seeks(x.passed)
 		return
 	}
-	x.does(retire.NewCancel(x.where, x.thread, x.reserve.Place()), x.canceled)
+	x.does(retire.NewCancel(x.where, x.thread, x.room.Place()), x.canceled)
 }
 
 // canceled begins anew.
@@ -80,7 +55,7 @@ func (x *Work) canceled(*pmem.Mem) {
 
 // passed stamps the slot's entry: who comes in from now on does not meet the slot.
 func (x *Work) passed(*pmem.Mem) {
-	x.does(retire.NewStamp(x.where, x.thread, x.reserve.Place(), x.slot), x.stamped)
+	x.does(retire.NewStamp(x.where, x.thread, x.room.Place(), x.slot), x.stamped)
 }
 
 // stamped ends the work.
